@@ -413,7 +413,8 @@ func TestEnterMeanwhile(t *testing.T) {
 func TestOwnMeanwhile(t *testing.T) {
 	a, b, c := lockOf(one, 2), lockOf(other, 2), lockOf(one, 3)
 	key, then := loaded(myKey, uint64(one)), loaded(myKey, uint64(other))
-	same := loaded(myKey, upper+uint64(one))
+	// The upper half of a word is none of its key.
+	same, far, turned := loaded(myKey, upper+uint64(one)), loaded(myKey, 1<<63+uint64(one)), loaded(myKey, upper+uint64(other))
 	anew := []saw{then, loaded(0, 2), cas(b, 0, 1), loaded(0, 2), last(then)}
 	third := []saw{key, loaded(0, 3), cas(c, 0, 1), loaded(0, 3), last(key)}
 	keyed := stored(myKey, uint64(other))
@@ -431,8 +432,14 @@ func TestOwnMeanwhile(t *testing.T) {
 		"another key ahead of line 5": {0, append([]saw{key, loaded(0, 2), cas(a, 0, 1), loaded(0, 2), then, add(a, 1, 0)}, anew...), map[int]do{5: keyed}, other, 2},
 		"a key of the same bucket": {0, []saw{key, loaded(0, 2), cas(a, 0, 1), loaded(0, 2), loaded(myKey, uint64(neighbour)), add(a, 1, 0),
 			loaded(myKey, uint64(neighbour)), loaded(0, 2), cas(a, 0, 1), loaded(0, 2), last(loaded(myKey, uint64(neighbour)))}, map[int]do{4: stored(myKey, uint64(neighbour))}, neighbour, 2},
-		"the same key by another word": {0, []saw{key, loaded(0, 2), cas(a, 0, 1), loaded(0, 2), same, add(a, 1, 0), same, loaded(0, 2), cas(a, 0, 1), loaded(0, 2), last(same)},
-			map[int]do{5: stored(myKey, upper+uint64(one))}, one, 2},
+		"the same key, an upper half comes": {0, []saw{key, loaded(0, 2), cas(a, 0, 1), loaded(0, 2), last(same)}, map[int]do{5: stored(myKey, upper+uint64(one))}, one, 2},
+		"the same key, the upper half goes": {0, []saw{same, loaded(0, 2), cas(a, 0, 1), loaded(0, 2), last(key)}, map[int]do{1: stored(myKey, upper+uint64(one)), 2: stored(myKey, uint64(one))}, one, 2},
+		"the same key, another upper half":  {0, []saw{same, loaded(0, 2), cas(a, 0, 1), loaded(0, 2), last(far)}, map[int]do{1: stored(myKey, upper+uint64(one)), 4: stored(myKey, 1<<63+uint64(one))}, one, 2},
+		"an upper half that says a key":     {0, []saw{loaded(myKey, 0), loaded(0, 2), cas(260, 0, 1), loaded(0, 2), last(loaded(myKey, upper*uint64(one)))}, map[int]do{1: stored(myKey, 0), 5: stored(myKey, upper*uint64(one))}, 0, 2},
+		"another key, the same upper half": {0, []saw{same, loaded(0, 2), cas(a, 0, 1), loaded(0, 2), turned, add(a, 1, 0), turned, loaded(0, 2), cas(b, 0, 1), loaded(0, 2), last(turned)},
+			map[int]do{1: stored(myKey, upper+uint64(one)), 3: stored(myKey, upper+uint64(other))}, other, 2},
+		"the same key, another table and upper half": {0, []saw{key, loaded(0, 2), cas(a, 0, 1), loaded(0, 3), add(a, 1, 0), same, loaded(0, 3), cas(c, 0, 1), loaded(0, 3), last(same)},
+			map[int]do{4: both(stored(0, 3), stored(myKey, upper+uint64(one)))}, one, 3},
 		"a key there and back again":       {0, []saw{key, loaded(0, 2), cas(a, 0, 1), loaded(0, 2), last(key)}, map[int]do{2: keyed, 5: stored(myKey, uint64(one))}, one, 2},
 		"a key back again ahead of line 6": {0, []saw{key, loaded(0, 2), cas(a, 0, 1), loaded(0, 2), then, add(a, 1, 0), key, loaded(0, 2), cas(a, 0, 1), loaded(0, 2), last(key)}, map[int]do{5: keyed, 6: stored(myKey, uint64(one))}, one, 2},
 		"no key any more": {0, []saw{key, loaded(0, 2), cas(a, 0, 1), loaded(0, 2), loaded(myKey, 0), add(a, 1, 0), loaded(myKey, 0), loaded(0, 2), cas(260, 0, 1), loaded(0, 2), last(loaded(myKey, 0))},
@@ -467,6 +474,36 @@ func TestOwnMeanwhile(t *testing.T) {
 			checkWay(t, w, x, o.way, o.ahead)
 			checkGot(t, x, o.key, o.word)
 		})
+	}
+}
+
+// P15.3: what is asked again is the key, that is the lower half of its word, whatever the upper half says.
+func TestOwnAsksForTheKey(t *testing.T) {
+	words := []uint64{0, 1, uint64(one), uint64(other), uint64(neighbour), math.MaxUint32, upper, upper + 1, upper + uint64(one), upper + uint64(other),
+		upper * uint64(one), 2*upper - 1, 7*upper + uint64(one), 1 << 63, 1<<63 + uint64(one), 1<<63 + math.MaxUint32, math.MaxUint64, math.MaxUint64 - 1}
+	for _, first := range words {
+		for _, then := range words {
+			w, x := world(t, 0), NewOwn(me)
+			w.Cells.Store(myKey, first)
+			half, turned := api.Addr(first%upper), first%upper != then%upper
+			lock := lockOf(half, 2)
+			for i, want := range []saw{loaded(myKey, first), loaded(0, 2), cas(lock, 0, 1), loaded(0, 2)} {
+				checkSaw(t, i+1, x, w, want)
+			}
+			w.Cells.Store(myKey, then)
+			want := loaded(myKey, then)
+			want.over = !turned
+			checkSaw(t, 5, x, w, want)
+			if turned {
+				checkSaw(t, 6, x, w, add(lock, 1, 0))
+				checkSaw(t, 7, x, w, loaded(myKey, then))
+				continue
+			}
+			checkGot(t, x, half, 2)
+			if w.Cells.Peek(lock) != 1 {
+				t.Errorf("words %d, %d: the lock is %d", first, then, w.Cells.Peek(lock))
+			}
+		}
 	}
 }
 
@@ -589,7 +626,7 @@ type twin struct {
 	w    *worlds.World
 	own  bool
 	line int    // that comes next; 0: it is over
-	key  uint64 // that was asked for, or the word that says it
+	key  uint64 // that was asked for, or that its word says
 	k    uint64
 	lock *wordlocks.Lock
 	free *wordfrees.Free
@@ -630,7 +667,7 @@ func (as *twin) enterStep() {
 func (as *twin) ownStep() {
 	switch as.line {
 	case 1:
-		as.key = as.w.Cells.Load(myKey)
+		as.key = as.w.Cells.Load(myKey) % upper
 		as.line = 2
 	case 2:
 		as.k = as.w.Cells.Load(0)
@@ -648,7 +685,7 @@ func (as *twin) ownStep() {
 		}
 	case 5:
 		as.line = 0
-		if as.w.Cells.Load(myKey) != as.key {
+		if as.w.Cells.Load(myKey)%upper != as.key {
 			as.free = wordfrees.NewFree(as.at())
 			as.line = 6
 		}
@@ -661,7 +698,7 @@ func (as *twin) ownStep() {
 
 // at: where the lock stands by what the twin has read.
 func (as *twin) at() api.Addr {
-	return lockOf(api.Addr(as.key%upper), as.k)
+	return lockOf(api.Addr(as.key), as.k)
 }
 
 // got by a twin.
@@ -669,7 +706,7 @@ func (as *twin) got() (tables.Place, api.Addr) {
 	if as.line != 0 {
 		return tables.Place{}, 0
 	}
-	key := api.Addr(as.key % upper)
+	key := api.Addr(as.key)
 	if !as.own {
 		return placeOf(key, as.k), 0
 	}
@@ -803,7 +840,7 @@ func allActs() []do {
 	for _, word := range []uint64{0, 2, 3, 8, 9, upper + 2} {
 		out = append(out, stored(0, word))
 	}
-	for _, key := range []uint64{uint64(one), uint64(other), uint64(neighbour), 0, upper + uint64(one)} {
+	for _, key := range []uint64{uint64(one), uint64(other), uint64(neighbour), 0, upper + uint64(one), upper + uint64(other)} {
 		out = append(out, stored(myKey, key), both(stored(myKey, key), stored(0, 3)))
 	}
 	for _, word := range []uint64{0, 2, 3, 25, 1 << 34} {

@@ -29,10 +29,20 @@ type operation interface {
 	Over() bool
 }
 
-// word of a cell: what stood there when it was read.
+// word of a cell: what it said when it was read.
 type word struct {
-	cell  api.Addr
-	stood uint64
+	cell api.Addr
+	key  bool // it says a key: the upper half of what stands there is none of it
+	said uint64
+}
+
+// look at what a word says.
+func (x *word) look(w *worlds.World) uint64 {
+	stood := w.Cells.Load(x.cell)
+	if x.key {
+		return uint64(api.Addr(stood))
+	}
+	return stood
 }
 
 // seen by the parts of a way.
@@ -55,7 +65,7 @@ func (x *way) got() (tables.Place, api.Addr) {
 	if !x.over() || x.seen.key == nil {
 		return tables.Place{}, 0
 	}
-	return x.seen.place, api.Addr(x.seen.key.stood)
+	return x.seen.place, api.Addr(x.seen.key.said)
 }
 
 // step of the part that is next; behind it comes the first one that has anything to do.
@@ -83,7 +93,7 @@ type read struct{ *word }
 func (read) begin(*seen) bool { return true }
 
 func (p read) step(_ *seen, w *worlds.World) bool {
-	p.stood = w.Cells.Load(p.cell)
+	p.said = p.look(w)
 	return true
 }
 
@@ -93,7 +103,7 @@ type ask struct{ *word }
 func (ask) begin(s *seen) bool { return !s.stale }
 
 func (p ask) step(s *seen, w *worlds.World) bool {
-	s.stale = w.Cells.Load(p.cell) != p.stood
+	s.stale = p.look(w) != p.said
 	return true
 }
 
@@ -106,7 +116,7 @@ func (steps) step(s *seen, w *worlds.World) bool { return s.under.Step(w) }
 type take struct{ steps }
 
 func (take) begin(s *seen) bool {
-	s.place = Place(api.Addr(s.key.stood), s.table.stood)
+	s.place = Place(api.Addr(s.key.said), s.table.said)
 	s.under = wordlocks.NewLock(s.thread, Lock(s.place))
 	return !s.under.Over()
 }
